@@ -1,0 +1,1 @@
+"""Classes of the remainders by a prime, told by powers of a root."""
