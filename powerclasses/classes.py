@@ -1,5 +1,8 @@
 """The calls on one object: a prime, its root, and the classes its remainders fall into."""
 
+from powerclasses.pairs import count_behind
+from powerclasses.pairs import differ_evenly
+from powerclasses.pairs import difference_counts
 from powerclasses.remainders import all_roots
 from powerclasses.remainders import is_odd_prime
 from powerclasses.remainders import least_root
@@ -16,8 +19,7 @@ MOST_CLASSES = 8
 
 BEGIN = 0
 
-# How many numbers stand behind each call's own number. The calls that are not
-# built yet are here too, for they are answered -11 before a begin.
+# How many numbers stand behind each call's own number.
 ARGUMENT_COUNTS = (2, 1, 1, 0, 0, 1, 1, 1, 1, 1, 2, 1, 0, 2, 1, 1, 1, 2, 1, 0)
 
 
@@ -43,10 +45,26 @@ def index_of(held, remainder):
     return held.powers.index(remainder)
 
 
+def class_of(held, remainder):
+    """Give the class that a remainder is of."""
+    return index_of(held, remainder) % held.class_count
+
+
+def has_class(held, number):
+    """Say whether there is a class with this number."""
+    return number < held.class_count
+
+
 def members_of(held, number):
     """List, rising, the remainders of the class with this number."""
     # A class's indexes lie class_count apart, since class_count divides prime - 1.
     return sorted(held.powers[number::held.class_count])
+
+
+def row_of(held, number):
+    """List how many of a class have one of each class right behind them."""
+    members = members_of(held, number)
+    return [count_behind(members, members_of(held, other)) for other in range(held.class_count)]
 
 
 def answer_begin(held, told):
@@ -106,7 +124,7 @@ def answer_class(held, told):
     remainder = told[0] % held.prime
     if remainder == 0:
         return [BAD_NUMBER]
-    return [index_of(held, remainder) % held.class_count]
+    return [class_of(held, remainder)]
 
 
 def answer_power(held, told):
@@ -117,7 +135,7 @@ def answer_power(held, told):
 
 def answer_members(held, told):
     """Give how many remainders are of a class, then these."""
-    if told[0] >= held.class_count:
+    if not has_class(held, told[0]):
         return [NO_CLASS]
     members = members_of(held, told[0])
     return [len(members)] + members
@@ -125,9 +143,86 @@ def answer_members(held, told):
 
 def answer_first(held, told):
     """Give the least remainder of a class."""
-    if told[0] >= held.class_count:
+    if not has_class(held, told[0]):
         return [NO_CLASS]
     return [members_of(held, told[0])[0]]
+
+
+def answer_behind(held, told):
+    """Give how many of one class have one of another right behind them."""
+    if not has_class(held, told[0]) or not has_class(held, told[1]):
+        return [NO_CLASS]
+    return [count_behind(members_of(held, told[0]), members_of(held, told[1]))]
+
+
+def answer_row(held, told):
+    """Give how many classes there are, then how many of a class have each behind them."""
+    if not has_class(held, told[0]):
+        return [NO_CLASS]
+    return [held.class_count] + row_of(held, told[0])
+
+
+def answer_table(held, told):
+    """Give how many numbers all rows have, then these, row by row."""
+    table = []
+    for number in range(held.class_count):
+        table.extend(row_of(held, number))
+    return [len(table)] + table
+
+
+def answer_differs(held, told):
+    """Give how many ordered pairs of a class differ by a number."""
+    if not has_class(held, told[0]):
+        return [NO_CLASS]
+    difference = told[1] % held.prime
+    if difference == 0:
+        return [BAD_NUMBER]
+    return [difference_counts(members_of(held, told[0]), held.prime)[difference]]
+
+
+def answer_even(held, told):
+    """Give 1 if each difference comes as often within a class, else 0."""
+    if not has_class(held, told[0]):
+        return [NO_CLASS]
+    return [1 if differ_evenly(members_of(held, told[0]), held.prime) else 0]
+
+
+def answer_evenzero(held, told):
+    """Give 1 if each difference comes as often within a class and 0, else 0."""
+    if not has_class(held, told[0]):
+        return [NO_CLASS]
+    return [1 if differ_evenly([0] + members_of(held, told[0]), held.prime) else 0]
+
+
+def answer_sum(held, told):
+    """Give all remainders of a class together."""
+    if not has_class(held, told[0]):
+        return [NO_CLASS]
+    return [sum(members_of(held, told[0]))]
+
+
+def answer_times(held, told):
+    """Give the class that a class is multiplied into by a number."""
+    if not has_class(held, told[0]):
+        return [NO_CLASS]
+    factor = told[1] % held.prime
+    if factor == 0:
+        return [BAD_NUMBER]
+    # Indexes are added where remainders are multiplied, so one member speaks for all.
+    return [class_of(held, members_of(held, told[0])[0] * factor % held.prime)]
+
+
+def answer_opposite(held, told):
+    """Give the class of what the prime is more than those of a class."""
+    if not has_class(held, told[0]):
+        return [NO_CLASS]
+    # To take from the prime is to multiply by prime - 1, so one member speaks for all.
+    return [class_of(held, held.prime - members_of(held, told[0])[0])]
+
+
+def answer_told(held, told):
+    """Give the prime, how many classes there are, and the root in use."""
+    return [held.prime, held.class_count, held.powers[1]]
 
 
 # Each stands at the place of its call's number.
@@ -142,6 +237,16 @@ ANSWERERS = (
     answer_power,
     answer_members,
     answer_first,
+    answer_behind,
+    answer_row,
+    answer_table,
+    answer_differs,
+    answer_even,
+    answer_evenzero,
+    answer_sum,
+    answer_times,
+    answer_opposite,
+    answer_told,
 )
 
 
@@ -149,8 +254,6 @@ def answer_call(held, call, told):
     """Answer one call, told with its numbers, on the object."""
     if call != BEGIN and held.prime == 0:
         return [NOT_BEGUN]
-    if call >= len(ANSWERERS):
-        raise NotImplementedError(f"call {call} is not built yet")
     answerer = ANSWERERS[call]
     return answerer(held, told)
 

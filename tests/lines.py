@@ -5,6 +5,8 @@ from powerclasses.classes import answers
 NUMBERS = {
     "begin": 0, "split": 1, "other": 2, "root": 3, "roots": 4,
     "index": 5, "class": 6, "power": 7, "members": 8, "first": 9,
+    "behind": 10, "row": 11, "table": 12, "differs": 13, "even": 14,
+    "evenzero": 15, "sum": 16, "times": 17, "opposite": 18, "told": 19,
 }
 GREATEST = 4294967295
 
@@ -61,3 +63,45 @@ def index_by(root, x, p):
 def splits(p):
     """The counts of classes that p allows."""
     return [e for e in range(2, 9) if (p - 1) % e == 0]
+
+
+# Each prime with each count of classes that it allows.
+EACH = [(p, e) for p in LEAST_ROOTS for e in splits(p)]
+
+
+def plain_roots(p):
+    """All numbers whose powers, reckoned one by one, are all remainders."""
+    return [g for g in range(1, p) if len({pow(g, n, p) for n in range(p)}) == p - 1]
+
+
+def plain_classes(root, p, e):
+    """Each remainder's class, reckoned power by power."""
+    return {pow(root, n, p): n % e for n in range(p - 1)}
+
+
+def plain_members(root, p, e, i):
+    """The remainders of class i, reckoned power by power."""
+    return sorted(pow(root, n, p) for n in range(p - 1) if n % e == i)
+
+
+def plain_table(root, p, e):
+    """The rows, reckoned by a walk over the remainders and the ones behind them."""
+    classes = plain_classes(root, p, e)
+    rows = [[0] * e for i in range(e)]
+    for x in range(1, p - 1):
+        rows[classes[x]][classes[x + 1]] += 1
+    return rows
+
+
+def rows_of(table):
+    """Cut what table answers into its rows."""
+    count, *numbers = table
+    e = next(e for e in range(2, 9) if e * e == count)
+    if len(numbers) != count:
+        raise ValueError("the table has not as many numbers as it says")
+    return [numbers[place:place + e] for place in range(0, count, e)]
+
+
+def chunks(asked):
+    """Cut what is asked so that a begin, another call and it are at most 60 calls."""
+    return [asked[place:place + 50] for place in range(0, len(asked), 50)]

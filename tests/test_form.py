@@ -17,7 +17,7 @@ OUT = (
 )
 BUILT_IN = {
     "len", "range", "enumerate", "zip", "min", "max", "sum", "abs", "sorted", "reversed", "int", "str", "bool",
-    "list", "tuple", "dict", "set", "isinstance", "ord", "repr", "any", "all", "divmod", "NotImplementedError",
+    "list", "tuple", "dict", "set", "isinstance", "ord", "repr", "any", "all", "divmod",
 }
 WORDS = re.compile(r"\b(type|typing|enum|Enum|Flag|Generic|Protocol|ABC|namedtuple)\b|dataclass|overload")
 

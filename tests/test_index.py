@@ -2,12 +2,7 @@
 
 import unittest
 
-from tests.lines import GREATEST, LEAST_ROOTS, index_by, last, run, splits
-
-
-def chunks(asked):
-    """Cut what is asked so that a begin and it are at most 60 calls."""
-    return [asked[place:place + 50] for place in range(0, len(asked), 50)]
+from tests.lines import GREATEST, LEAST_ROOTS, chunks, index_by, last, run, splits
 
 
 class Index(unittest.TestCase):

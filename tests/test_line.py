@@ -3,32 +3,51 @@
 import unittest
 
 from powerclasses.classes import answers
-from tests.lines import GREATEST, run
+from tests.lines import GREATEST, parts, run
 
 # How many numbers each of the twenty calls brings.
 COUNTS = [2, 1, 1, 0, 0, 1, 1, 1, 1, 1, 2, 1, 0, 2, 1, 1, 1, 2, 1, 0]
 
-# Every call of this stage, some of them refused.
-EVERY = [0, 7, 3, 3, 4, 5, 6, 6, 6, 7, 4, 8, 0, 9, 1, 1, 2, 2, 5, 8, 1, 8, 2, 5, 7, 1, 4, 0, 9, 2, 0, 13, 4, 9, 3]
-EVERY_ANSWERED = [
-    1, 0,
-    1, 3,
-    3, 2, 3, 5,
-    1, 3,
-    1, 0,
-    1, 4,
-    3, 2, 1, 6,
-    1, 3,
-    1, 3,
-    1, 5,
-    4, 3, 3, 5, 6,
-    1, -2,
-    1, -22,
-    1, -33,
-    1, -22,
-    1, 0,
-    1, 7,
+# Every call, some of them refused, each behind the one before, with what is answered.
+LAID = [
+    ([0, 7, 3], [1, 0]),
+    ([3], [1, 3]),
+    ([4], [3, 2, 3, 5]),
+    ([5, 6], [1, 3]),
+    ([6, 6], [1, 0]),
+    ([7, 4], [1, 4]),
+    ([8, 0], [3, 2, 1, 6]),
+    ([9, 1], [1, 3]),
+    ([10, 1, 2], [1, 1]),
+    ([11, 1], [4, 3, 0, 1, 1]),
+    ([12], [10, 9, 0, 0, 1, 0, 1, 1, 1, 1, 0]),
+    ([13, 1, 6], [1, 1]),
+    ([19], [3, 7, 3, 3]),
+    ([1, 2], [1, 3]),
+    ([2, 5], [1, 5]),
+    ([19], [3, 7, 2, 5]),
+    ([8, 1], [4, 3, 3, 5, 6]),
+    ([14, 1], [1, 1]),
+    ([15, 1], [1, 1]),
+    ([16, 1], [1, 14]),
+    ([17, 1, 3], [1, 0]),
+    ([18, 1], [1, 0]),
+    ([12], [5, 4, 1, 2, 1, 1]),
+    ([8, 2], [1, -2]),
+    ([10, 2, 0], [1, -2]),
+    ([11, 2], [1, -2]),
+    ([13, 2, 7], [1, -2]),
+    ([13, 1, 7], [1, -22]),
+    ([17, 0, 0], [1, -22]),
+    ([5, 7], [1, -22]),
+    ([1, 4], [1, -33]),
+    ([0, 9, 2], [1, -22]),
+    ([0, 13, 4], [1, 0]),
+    ([9, 3], [1, 7]),
+    ([19], [3, 13, 4, 2]),
 ]
+EVERY = [number for calls, given in LAID for number in calls]
+EVERY_ANSWERED = [number for calls, given in LAID for number in given]
 
 
 class Guarded(list):
@@ -42,8 +61,15 @@ class Guarded(list):
 
 
 class Layout(unittest.TestCase):
-    def test_every_call_of_the_stage(self):
+    def test_every_call(self):
+        self.assertEqual({calls[0] for calls, given in LAID}, set(range(20)))
         self.assertEqual(answers(EVERY), EVERY_ANSWERED)
+
+    def test_every_call_one_more_each_time(self):
+        for count in range(1, len(LAID) + 1):
+            with self.subTest(count=count):
+                calls = [number for some, given in LAID[:count] for number in some]
+                self.assertEqual(answers(calls), [number for some, given in LAID[:count] for number in given])
 
     def test_one_number_answered(self):
         self.assertEqual(answers([0, 3, 2]), [1, 0])
@@ -60,6 +86,17 @@ class Layout(unittest.TestCase):
 
     def test_sixty_calls_with_all_their_numbers(self):
         self.assertEqual(answers([0, 199, 6] * 60), [1, 0] * 60)
+
+    def test_sixty_calls_of_three_numbers(self):
+        self.assertEqual(answers([0, 199, 6] + [17, 5, 198] * 59), [1, 0] + [1, 2] * 59)
+        self.assertEqual(answers([0, 199, 2] + [13, 1, GREATEST] * 59), [1, 0] + [1, 49] * 59)
+        self.assertEqual(answers([0, 199, 2] + [10, GREATEST, 0] * 59), [1, 0] + [1, -2] * 59)
+
+    def test_sixty_long_answers(self):
+        given = parts(answers([0, 193, 8] + [12] * 59))
+        self.assertEqual(len(given), 60)
+        self.assertEqual({len(some) for some in given[1:]}, {65})
+        self.assertEqual(given[1:], [given[1]] * 59)
 
     def test_answers_are_plain_whole_numbers(self):
         given = answers(EVERY)
@@ -113,8 +150,10 @@ class BeforeBegin(unittest.TestCase):
 
     def test_the_refusal_before_begin_goes_ahead_of_others(self):
         self.assertEqual(
-            run(("split", 0), ("other", 0), ("index", 0), ("class", 0), ("members", 9), ("first", 9)),
-            [[-11]] * 6,
+            run(("split", 0), ("other", 0), ("index", 0), ("class", 0), ("members", 9), ("first", 9), ("behind", 9, 9),
+                ("row", 9), ("differs", 9, 0), ("even", 9), ("evenzero", 9), ("sum", 9), ("times", 9, 0),
+                ("opposite", 9)),
+            [[-11]] * 14,
         )
 
     def test_a_refused_call_leaves_nothing_for_the_begin(self):

@@ -2,12 +2,7 @@
 
 import unittest
 
-from tests.lines import GREATEST, LEAST_ROOTS, last, run, splits
-
-
-def plain_members(root, p, e, i):
-    """The remainders of class i, reckoned power by power."""
-    return sorted(pow(root, n, p) for n in range(p - 1) if n % e == i)
+from tests.lines import GREATEST, LEAST_ROOTS, last, plain_members, run, splits
 
 
 class Members(unittest.TestCase):

@@ -2,12 +2,7 @@
 
 import unittest
 
-from tests.lines import GREATEST, LEAST_ROOTS, index_by, last, run
-
-
-def plain_roots(p):
-    """All numbers whose powers, reckoned one by one, are all remainders."""
-    return [g for g in range(1, p) if len({pow(g, n, p) for n in range(p)}) == p - 1]
+from tests.lines import GREATEST, LEAST_ROOTS, index_by, last, plain_roots, run
 
 
 class Roots(unittest.TestCase):
